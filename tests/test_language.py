@@ -1,0 +1,152 @@
+"""The files of the package keep to those rules of the language document that a program can see easily."""
+
+import ast
+import builtins
+import pathlib
+import re
+import unittest
+
+PACKAGE = pathlib.Path(__file__).resolve().parent.parent / "findforests"
+ALLOWED_BUILTINS = set(
+    "len range enumerate zip min max sum abs sorted reversed int str bool bytes list tuple dict set frozenset "
+    "isinstance ord repr any all divmod iter next Exception ValueError TypeError KeyError IndexError LookupError "
+    "ZeroDivisionError ArithmeticError OverflowError RuntimeError NotImplementedError AttributeError StopIteration "
+    "NotImplemented property staticmethod classmethod super object".split()
+)
+BARRED_WORDS = (
+    "type typing typing_extensions enum Enum IntEnum StrEnum Flag IntFlag Generic Protocol ABC ABCMeta namedtuple "
+    "NamedTuple TypedDict TYPE_CHECKING abstractmethod"
+).split()
+BARRED_PARTS = ["dataclass", "overload", "contextmanager"]
+BARRED_NAMES = set(
+    "register mro elements open input version_info with_traceback add_note format format_map".split()
+)
+BARRED_NODES = (
+    ast.Global, ast.AsyncFunctionDef, ast.AsyncFor, ast.AsyncWith, ast.Await, ast.Import, ast.Div, ast.MatMult,
+    ast.TryStar,
+)
+MODULE_LEVEL = (ast.ImportFrom, ast.FunctionDef, ast.ClassDef, ast.Assign)
+DOUBLE = re.compile(r"__[a-z]+__")
+
+
+def files():
+    return sorted(PACKAGE.glob("*.py"))
+
+
+def trees():
+    return [(path.name, ast.parse(path.read_text())) for path in files()]
+
+
+def bound_names(tree):
+    """Names that functions bind: parameters, variables and nested functions' names."""
+    for node in ast.walk(tree):
+        if isinstance(node, ast.arg):
+            yield node.arg
+        elif isinstance(node, ast.Name) and not isinstance(node.ctx, ast.Load):
+            yield node.id
+        elif isinstance(node, ast.ExceptHandler) and node.name:
+            yield node.name
+
+
+def all_names(tree):
+    """Every name that stands in a file, attributes and definitions included."""
+    yield from bound_names(tree)
+    for node in ast.walk(tree):
+        if isinstance(node, (ast.FunctionDef, ast.ClassDef)):
+            yield node.name
+        elif isinstance(node, ast.Attribute):
+            yield node.attr
+        elif isinstance(node, ast.Name):
+            yield node.id
+
+
+def defined_names(tree):
+    """What a file itself defines at module level."""
+    for node in tree.body:
+        if isinstance(node, (ast.FunctionDef, ast.ClassDef)):
+            yield node.name
+        elif isinstance(node, ast.Assign):
+            yield from (target.id for target in node.targets)
+
+
+class TextTest(unittest.TestCase):
+    def test_folder_contains_only_plain_files(self):
+        for path in PACKAGE.iterdir():
+            # Python writes this folder when tests run; it is never committed.
+            if path.name != "__pycache__":
+                self.assertRegex(path.name, r"^(__init__|__main__|[a-z][a-z0-9_]*)\.py$")
+        self.assertTrue((PACKAGE / "__init__.py").is_file())
+
+    def test_characters_and_sizes(self):
+        for path in files():
+            text = path.read_bytes().decode("utf-8")
+            self.assertRegex(text, r"^[ -~\n]*\Z", path.name)
+            rows = text.split("\n")
+            self.assertLessEqual(len(rows), 400, path.name)
+            self.assertLessEqual(max(len(row) for row in rows), 120, path.name)
+
+    def test_barred_words(self):
+        for path in files():
+            text = path.read_text()
+            for word in BARRED_WORDS:
+                self.assertNotRegex(text, rf"\b{word}\b", path.name)
+            for part in BARRED_PARTS:
+                self.assertNotIn(part, text, path.name)
+
+
+class TreeTest(unittest.TestCase):
+    def test_module_level(self):
+        for name, tree in trees():
+            self.assertIsNotNone(ast.get_docstring(tree), name)
+            for node in tree.body[1:]:
+                self.assertIsInstance(node, MODULE_LEVEL, name)
+
+    def test_imports_name_the_file_that_defines(self):
+        defined = {f"findforests.{name[:-3]}": set(defined_names(tree)) for name, tree in trees()}
+        for name, tree in trees():
+            for node in ast.walk(tree):
+                if isinstance(node, ast.ImportFrom):
+                    self.assertEqual(node.level, 0, name)
+                    self.assertIn(node, tree.body, name)
+                    for alias in node.names:
+                        self.assertIn(alias.name, defined[node.module], name)
+
+    def test_functions_are_short(self):
+        for name, tree in trees():
+            for node in ast.walk(tree):
+                if isinstance(node, ast.FunctionDef):
+                    self.assertLessEqual(node.end_lineno - node.lineno + 1, 40, (name, node.name))
+
+    def test_barred_nodes_and_values(self):
+        for name, tree in trees():
+            for node in ast.walk(tree):
+                self.assertNotIsInstance(node, BARRED_NODES, name)
+                if isinstance(node, ast.Constant):
+                    self.assertNotIsInstance(node.value, (float, complex), name)
+                    self.assertFalse(isinstance(node.value, str) and "%" in node.value, name)
+
+    def test_is_only_beside_constants(self):
+        for name, tree in trees():
+            for node in ast.walk(tree):
+                if isinstance(node, ast.Compare):
+                    for sign, right in zip(node.ops, node.comparators):
+                        if isinstance(sign, (ast.Is, ast.IsNot)):
+                            self.assertIsInstance(right, ast.Constant, name)
+
+    def test_names(self):
+        for name, tree in trees():
+            for word in all_names(tree):
+                self.assertTrue(DOUBLE.fullmatch(word) or not word.startswith("_"), (name, word))
+                self.assertNotIn(word, BARRED_NAMES, name)
+
+    def test_builtins(self):
+        for name, tree in trees():
+            for word in bound_names(tree):
+                self.assertFalse(hasattr(builtins, word), (name, word))
+            for node in ast.walk(tree):
+                if isinstance(node, ast.Name) and hasattr(builtins, node.id):
+                    self.assertIn(node.id, ALLOWED_BUILTINS, name)
+
+
+if __name__ == "__main__":
+    unittest.main()
