@@ -44,11 +44,16 @@ def single_nodes(size):
     return tuple(range(size))
 
 
+def check_number(size, node):
+    """Returns None if an integer is one of the nodes 0 to size - 1. Raises NoNode otherwise."""
+    # Python would take a negative index as one from the end.
+    if not 0 <= node < size:
+        raise NoNode(node)
+
+
 def check_node(forest, node):
     """Returns None if the forest has the node. Raises NoNode otherwise."""
-    # Python would take a negative index as one from the end.
-    if not 0 <= node < len(forest):
-        raise NoNode(node)
+    check_number(len(forest), node)
 
 
 def path_of(forest, node):

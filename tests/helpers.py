@@ -18,6 +18,11 @@ def small_forests(size):
     return [row for row in rows if all(reaches_root(row, node) for node in nodes)]
 
 
+def small_trees(size):
+    """All trees over so many nodes, without a call of the package."""
+    return [row for row in small_forests(size) if sum(row[node] == node for node in range(size)) == 1]
+
+
 def nodes_above(forest, node):
     """The nodes above a node, nearest first, by recursion instead of a loop."""
     parent = forest[node]
@@ -64,11 +69,11 @@ def outcome(call, args, named):
 
 
 def spoil(answer):
-    """Changes a list or a dict, also one inside a tuple."""
-    if isinstance(answer, tuple):
+    """Changes a list or a dict, also one inside a tuple or a list."""
+    if isinstance(answer, (tuple, list)):
         for part in answer:
             spoil(part)
-    elif isinstance(answer, list):
+    if isinstance(answer, list):
         answer.insert(0, 99)
     elif isinstance(answer, dict):
         answer[99] = 99

@@ -21,6 +21,12 @@ BARRED_PARTS = ["dataclass", "overload", "contextmanager"]
 BARRED_NAMES = set(
     "register mro elements open input version_info with_traceback add_note format format_map".split()
 )
+ALLOWED_METHODS = set(
+    "append clear copy count endswith extend find get index insert isalnum isalpha isdigit islower isspace isupper "
+    "items join keys ljust lower lstrip partition pop remove replace reverse rfind rjust rpartition rsplit rstrip "
+    "setdefault split splitlines startswith strip update upper values zfill bit_length add discard "
+    "sort".split()
+)
 BARRED_NODES = (
     ast.Global, ast.AsyncFunctionDef, ast.AsyncFor, ast.AsyncWith, ast.Await, ast.Import, ast.Div, ast.MatMult,
     ast.TryStar,
@@ -67,6 +73,31 @@ def defined_names(tree):
             yield node.name
         elif isinstance(node, ast.Assign):
             yield from (target.id for target in node.targets)
+
+
+def imported_names(tree):
+    """The names that the imports of a file bind."""
+    imports = [node for node in tree.body if isinstance(node, ast.ImportFrom)]
+    return [alias.asname or alias.name for node in imports for alias in node.names]
+
+
+def imported_modules(tree):
+    return {node.module for node in tree.body if isinstance(node, ast.ImportFrom)}
+
+
+def own_methods():
+    """The names of the methods of all classes of the package."""
+    classes = [node for name, tree in trees() for node in tree.body if isinstance(node, ast.ClassDef)]
+    return {row.name for node in classes for row in node.body if isinstance(row, ast.FunctionDef)}
+
+
+def is_view(value):
+    """Whether an expression is something that may only be iterated on the spot."""
+    if not isinstance(value, ast.Call):
+        return False
+    if isinstance(value.func, ast.Attribute):
+        return value.func.attr in ["items", "keys", "values"]
+    return isinstance(value.func, ast.Name) and value.func.id in ["zip", "enumerate", "reversed", "range"]
 
 
 class TextTest(unittest.TestCase):
@@ -132,6 +163,48 @@ class TreeTest(unittest.TestCase):
                     for sign, right in zip(node.ops, node.comparators):
                         if isinstance(sign, (ast.Is, ast.IsNot)):
                             self.assertIsInstance(right, ast.Constant, name)
+
+    def test_powers_have_small_literal_exponents(self):
+        for name, tree in trees():
+            for node in ast.walk(tree):
+                if isinstance(node, ast.BinOp) and isinstance(node.op, ast.Pow):
+                    self.assertIsInstance(node.right, ast.Constant, name)
+                    self.assertIn(node.right.value, range(65), name)
+
+    def test_methods_of_builtin_values(self):
+        for name, tree in trees():
+            for node in ast.walk(tree):
+                if isinstance(node, ast.Call) and isinstance(node.func, ast.Attribute):
+                    self.assertIn(node.func.attr, ALLOWED_METHODS | own_methods(), name)
+
+    def test_no_generator_expressions(self):
+        # They are barred from most places as soon as a class has its own equality, so lists stand there at once.
+        for name, tree in trees():
+            for node in ast.walk(tree):
+                self.assertNotIsInstance(node, ast.GeneratorExp, name)
+
+    def test_views_are_iterated_at_once(self):
+        for name, tree in trees():
+            for node in ast.walk(tree):
+                if isinstance(node, (ast.Assign, ast.Return)):
+                    self.assertFalse(is_view(node.value), (name, node.lineno))
+
+    def test_names_are_bound_once_at_module_level(self):
+        for name, tree in trees():
+            words = [*imported_names(tree), *defined_names(tree)]
+            self.assertEqual(len(words), len(set(words)), name)
+
+    def test_variables_do_not_hide_imports_and_classes(self):
+        for name, tree in trees():
+            outer = {*imported_names(tree), *(node.name for node in tree.body if isinstance(node, ast.ClassDef))}
+            self.assertFalse(outer & set(bound_names(tree)), name)
+
+    def test_no_circle_of_imports(self):
+        needs = {f"findforests.{name[:-3]}": imported_modules(tree) for name, tree in trees()}
+        while needs:
+            free = [module for module in needs if not needs[module] & set(needs)]
+            self.assertTrue(free, sorted(needs))
+            needs = {module: needs[module] for module in needs if module not in free}
 
     def test_names(self):
         for name, tree in trees():
