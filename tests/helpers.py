@@ -1,5 +1,7 @@
-"""What several test files need: exact comparisons, and all small forests straight from the definition."""
+"""What several test files need: exact comparisons, and forests, finds and logs straight from the definitions."""
 
+import collections
+import functools
 import itertools
 import unittest
 
@@ -11,22 +13,80 @@ def reaches_root(parents, node):
     return parents[node] == node
 
 
+@functools.lru_cache(maxsize=None)
 def small_forests(size):
     """All forests over so many nodes, without a call of the package."""
     nodes = range(size)
     rows = itertools.product(nodes, repeat=size)
-    return [row for row in rows if all(reaches_root(row, node) for node in nodes)]
+    return tuple(row for row in rows if all(reaches_root(row, node) for node in nodes))
 
 
+@functools.lru_cache(maxsize=None)
 def small_trees(size):
     """All trees over so many nodes, without a call of the package."""
-    return [row for row in small_forests(size) if sum(row[node] == node for node in range(size)) == 1]
+    return tuple(row for row in small_forests(size) if sum(row[node] == node for node in range(size)) == 1)
 
 
 def nodes_above(forest, node):
     """The nodes above a node, nearest first, by recursion instead of a loop."""
     parent = forest[node]
     return [] if parent == node else [parent] + nodes_above(forest, parent)
+
+
+def costs_of(forest, nodes):
+    """The costs of finds of the nodes one after another, without a call of the package."""
+    parents = list(forest)
+    costs = []
+    for node in nodes:
+        path = [node, *nodes_above(parents, node)]
+        for passed in path:
+            parents[passed] = path[-1]
+        costs.append(len(path) - 1)
+    return tuple(costs)
+
+
+def agreeing(size, nodes):
+    """A counter from the costs that finds of the nodes may have to the numbers of trees."""
+    return collections.Counter(costs_of(tree, nodes) for tree in small_trees(size))
+
+
+def is_conflict(log, pos):
+    """Whether an entry contradicts the ones before it, by the cases of the document."""
+    node, cost = log[pos]
+    earlier = [paid for found, paid in log[:pos] if found == node]
+    if earlier and earlier[0] >= 1:
+        return cost != 1
+    if earlier:
+        return cost != 0
+    return cost == 0 and any(paid == 0 for found, paid in log[:pos])
+
+
+def first_conflict(log):
+    """The first index whose entry contradicts the ones before it, or None."""
+    return next((pos for pos in range(len(log)) if is_conflict(log, pos)), None)
+
+
+def is_short(size, log, pos):
+    """Whether the first finds from an index on have more slots than there are fillers, as the document counts."""
+    firsts = [index for index, (node, cost) in enumerate(log)
+              if cost >= 1 and node not in [found for found, paid in log[:index]]]
+    slots = 0
+    for index in firsts:
+        cost = log[index][1]
+        if index >= pos and cost > 1:
+            slots += cost - 1 if index == firsts[0] else cost - 2
+    fillers = size - 1 - len(firsts) + sum(log[index][1] == 1 and index > pos for index in firsts)
+    return slots > fillers
+
+
+def random_tree(source, size, reach):
+    """A tree in which each node hangs on one of the few before it, with its nodes in any order."""
+    order = list(range(size))
+    source.shuffle(order)
+    parents = list(order)
+    for place, node in enumerate(order):
+        parents[node] = order[max(0, place - source.randint(1, reach))] if place else node
+    return tuple(parents)
 
 
 class ForestCase(unittest.TestCase):

@@ -32,6 +32,9 @@ BARRED_NODES = (
     ast.TryStar,
 )
 MODULE_LEVEL = (ast.ImportFrom, ast.FunctionDef, ast.ClassDef, ast.Assign)
+ALLOWED_DOUBLE = ["__init__", "__eq__", "__repr__", "__len__"]
+# What builtin values have and an own attribute may be called nevertheless.
+ALLOWED_ATTRIBUTES = ["count", "index", "title", "find", "get", "join", "lower", "upper", "split", "strip", "copy", "add"]
 DOUBLE = re.compile(r"__[a-z]+__")
 
 
@@ -85,10 +88,21 @@ def imported_modules(tree):
     return {node.module for node in tree.body if isinstance(node, ast.ImportFrom)}
 
 
+def methods():
+    """The methods of all classes of the package."""
+    classes = [node for name, tree in trees() for node in tree.body if isinstance(node, ast.ClassDef)]
+    return [row for node in classes for row in node.body if isinstance(row, ast.FunctionDef)]
+
+
 def own_methods():
     """The names of the methods of all classes of the package."""
-    classes = [node for name, tree in trees() for node in tree.body if isinstance(node, ast.ClassDef)]
-    return {row.name for node in classes for row in node.body if isinstance(row, ast.FunctionDef)}
+    return {row.name for row in methods()}
+
+
+def own_attributes():
+    """The names of the attributes that are assigned anywhere in the package."""
+    nodes = [node for name, tree in trees() for node in ast.walk(tree)]
+    return {node.attr for node in nodes if isinstance(node, ast.Attribute) and isinstance(node.ctx, ast.Store)}
 
 
 def is_view(value):
@@ -219,6 +233,42 @@ class TreeTest(unittest.TestCase):
             for node in ast.walk(tree):
                 if isinstance(node, ast.Name) and hasattr(builtins, node.id):
                     self.assertIn(node.id, ALLOWED_BUILTINS, name)
+
+
+class ClassTest(unittest.TestCase):
+    def test_double_underscore_methods(self):
+        for row in methods():
+            self.assertTrue(row.name in ALLOWED_DOUBLE or not row.name.startswith("_"), row.name)
+
+    def test_questions_about_objects_assign_nothing(self):
+        for row in methods():
+            if row.name in ["__eq__", "__repr__", "__len__"]:
+                self.assertIsInstance(row.body[-1], ast.Return, row.name)
+                for node in ast.walk(row):
+                    self.assertNotIsInstance(node, (ast.Assign, ast.AugAssign, ast.Delete), row.name)
+
+    def test_lengths_and_texts_of_objects(self):
+        for row in methods():
+            returned = [node.value for node in ast.walk(row) if isinstance(node, ast.Return)]
+            if row.name == "__len__":
+                self.assertEqual([value.func.id for value in returned], ["len"])
+            if row.name == "__repr__":
+                self.assertEqual([value.__class__ for value in returned], [ast.JoinedStr])
+
+    def test_no_name_is_a_method_and_an_attribute(self):
+        self.assertEqual(own_methods() & own_attributes(), set())
+
+    def test_attributes_that_are_read_are_assigned(self):
+        known = ALLOWED_METHODS | own_methods() | own_attributes()
+        for name, tree in trees():
+            for node in ast.walk(tree):
+                if isinstance(node, ast.Attribute):
+                    self.assertIn(node.attr, known, name)
+
+    def test_attributes_of_builtin_values_are_left_alone(self):
+        for kind in [str, int, list, dict, set, bytes, tuple]:
+            self.assertEqual(own_attributes() & set(dir(kind)) - set(ALLOWED_ATTRIBUTES), set())
+            self.assertEqual((own_methods() - set(ALLOWED_DOUBLE)) & set(dir(kind)) - ALLOWED_METHODS, set())
 
 
 if __name__ == "__main__":

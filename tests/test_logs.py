@@ -1,16 +1,14 @@
 """findforests.logs: hidden trees behind logs of finds and costs."""
 
-import collections
 import itertools
 import random
 import unittest
 
 from findforests import logs
 from findforests.errors import BadCost, NoNode, TooLong, TooManyNodes
-from findforests.finds import find
 from findforests.forests import check_forest
 from findforests.logs import count_hidden, find_hidden, log_of, next_costs
-from tests.helpers import ForestCase, small_trees
+from tests.helpers import ForestCase, agreeing, costs_of, first_conflict, is_short, random_tree
 
 MANY = 10 ** 30
 SEVERAL = (4, 1, 1, 2, 4, 0, 6, 3)
@@ -23,55 +21,6 @@ def log_calls():
     yield find_hidden
     yield lambda size, log: next_costs(size, log, 99)
     yield lambda size, log: next_costs(size=size, log=log, node=-1)
-
-
-def costs_of(tree, nodes):
-    costs = []
-    for node in nodes:
-        tree, cost = find(tree, node)
-        costs.append(cost)
-    return tuple(costs)
-
-
-def agreeing(size, nodes):
-    """A counter from the costs that finds of the nodes may have to the numbers of trees."""
-    return collections.Counter(costs_of(tree, nodes) for tree in small_trees(size))
-
-
-def has_conflict(log):
-    """Whether an entry contradicts the ones before it, by the cases of the document."""
-    for pos, (node, cost) in enumerate(log):
-        earlier = [paid for found, paid in log[:pos] if found == node]
-        if earlier and earlier[0] >= 1 and cost != 1:
-            return True
-        if earlier and earlier[0] == 0 and cost != 0:
-            return True
-        if not earlier and cost == 0 and any(paid == 0 for found, paid in log[:pos]):
-            return True
-    return False
-
-
-def is_short(size, log, pos):
-    """Whether the first finds from an index on have more slots than there are fillers, as the document counts."""
-    firsts = [index for index, (node, cost) in enumerate(log)
-              if cost >= 1 and node not in [found for found, paid in log[:index]]]
-    slots = 0
-    for index in firsts:
-        cost = log[index][1]
-        if index >= pos and cost > 1:
-            slots += cost - 1 if index == firsts[0] else cost - 2
-    fillers = size - 1 - len(firsts) + sum(log[index][1] == 1 and index > pos for index in firsts)
-    return slots > fillers
-
-
-def random_tree(source, size, reach):
-    """A tree in which each node hangs on one of the few before it, with its nodes in any order."""
-    order = list(range(size))
-    source.shuffle(order)
-    parents = list(order)
-    for place, node in enumerate(order):
-        parents[node] = order[max(0, place - source.randint(1, reach))] if place else node
-    return tuple(parents)
 
 
 class LogOfTest(ForestCase):
@@ -139,7 +88,7 @@ class HiddenTest(ForestCase):
         else:
             self.assert_tree(tree, size, log)
         short = [pos for pos in range(len(log) + 1) if is_short(size, log, pos)]
-        self.assertEqual(number == 0, has_conflict(log) or bool(short))
+        self.assertEqual(number == 0, first_conflict(log) is not None or bool(short))
 
     def test_all_costs_of_short_logs(self):
         for size in range(1, 5):
