@@ -1,8 +1,7 @@
 """Observers of a hidden tree: a log that grows entry by entry, and what it tells about the tree."""
 
-from findforests.errors import BadCost, Contradiction, EmptyHistory, TooLong, TooManyNodes
-from findforests.forests import check_number
-from findforests.logs import MAX_LOG, MAX_LOG_NODES, count_hidden, find_hidden, next_costs
+from findforests.errors import Contradiction, EmptyHistory, TooManyNodes
+from findforests.logs import MAX_LOG_NODES, count_hidden, find_hidden, next_costs
 
 
 class Observer:
@@ -29,16 +28,11 @@ class Observer:
 
         Raises TooLong, NoNode, BadCost or Contradiction.
         """
-        pos = len(self.entries)
-        if pos >= MAX_LOG:
-            raise TooLong(MAX_LOG)
-        check_number(self.size, node)
-        if cost < 0:
-            raise BadCost(pos)
         longer = [*self.entries, (node, cost)]
+        # All but the last entry were checked before, so that whatever is raised here is about the new one.
         left = count_hidden(self.size, longer)
         if left == 0:
-            raise Contradiction(pos)
+            raise Contradiction(len(self.entries))
         self.entries = longer
         self.undone = []
         return left

@@ -5,6 +5,8 @@ import functools
 import itertools
 import unittest
 
+from findforests.store import Store
+
 
 def reaches_root(parents, node):
     """Whether the parents lead to a root, found by going far enough up."""
@@ -87,6 +89,14 @@ def random_tree(source, size, reach):
     for place, node in enumerate(order):
         parents[node] = order[max(0, place - source.randint(1, reach))] if place else node
     return tuple(parents)
+
+
+def store_with(**forests):
+    """A store with these forests, each added by a step of its own, in this order."""
+    store = Store()
+    for name, forest in forests.items():
+        store.apply(("new", name, forest))
+    return store
 
 
 class ForestCase(unittest.TestCase):

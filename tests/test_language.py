@@ -2,6 +2,7 @@
 
 import ast
 import builtins
+import functools
 import pathlib
 import re
 import unittest
@@ -42,6 +43,7 @@ def files():
     return sorted(PACKAGE.glob("*.py"))
 
 
+@functools.lru_cache(maxsize=None)
 def trees():
     return [(path.name, ast.parse(path.read_text())) for path in files()]
 
@@ -94,6 +96,7 @@ def methods():
     return [row for node in classes for row in node.body if isinstance(row, ast.FunctionDef)]
 
 
+@functools.lru_cache(maxsize=None)
 def own_methods():
     """The names of the methods of all classes of the package."""
     return {row.name for row in methods()}
